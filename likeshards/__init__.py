@@ -1,0 +1,1 @@
+"""Likeshards: fields cut to three-cornered pieces."""

@@ -1,0 +1,54 @@
+"""Spots: tuples (x, y) of two fractions, x to the right, y upwards."""
+
+from likeshards.fracs import added, is_below, is_frac, lessened, multiplied
+
+
+def is_spot(thing):
+    """Whether anything is a spot."""
+    if not isinstance(thing, tuple) or len(thing) != 2:
+        return False
+    return is_frac(thing[0]) and is_frac(thing[1])
+
+
+def is_ahead(one, other):
+    """Whether the first spot is ahead of the second: by its x, or by its y where the x are alike."""
+    if one[0] == other[0]:
+        return is_below(one[1], other[1])
+    return is_below(one[0], other[0])
+
+
+def twice_of(one, other, third):
+    """Twice the area of three spots, above nought where the third lies to the left."""
+    along = multiplied(lessened(other[0], one[0]), lessened(third[1], one[1]))
+    across = multiplied(lessened(third[0], one[0]), lessened(other[1], one[1]))
+    return lessened(along, across)
+
+
+def turn_of(one, other, third):
+    """1 where the third lies to the left of who goes from the first to the second, -1 to the right, else 0."""
+    top = twice_of(one, other, third)[0]
+    if top > 0:
+        return 1
+    if top < 0:
+        return -1
+    return 0
+
+
+def is_amid(spot, one, other):
+    """Whether the spot is on a line with the two others, between them and like neither."""
+    if turn_of(one, other, spot) != 0:
+        return False
+    # Along any line each spot is ahead of those on one side of it, so this order tells what is between.
+    if is_ahead(one, spot):
+        return is_ahead(spot, other)
+    return is_ahead(other, spot) and is_ahead(spot, one)
+
+
+def part_on(start, end, part):
+    """The start and the part times the end less the start, all of them fractions."""
+    return added(start, multiplied(part, lessened(end, start)))
+
+
+def on_way(one, other, part):
+    """The spot on the way from the first spot to the second by a part, any fraction."""
+    return (part_on(one[0], other[0], part), part_on(one[1], other[1], part))

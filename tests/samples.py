@@ -1,0 +1,42 @@
+"""Short ways to write what the tests hand in, and things that are almost right."""
+
+from fractions import Fraction
+
+
+def frac(value):
+    """A fraction of the program, of an int, a Fraction or a text like "1/2"."""
+    value = Fraction(value)
+    return (value.numerator, value.denominator)
+
+
+def value_of(part):
+    """A fraction of the program as a Fraction, which also sees that it is in lowest terms."""
+    top, bottom = part
+    value = Fraction(top, bottom)
+    if (value.numerator, value.denominator) != (top, bottom):
+        raise AssertionError(f"not in lowest terms: {part}")
+    return value
+
+
+def spot(x, y):
+    return (frac(x), frac(y))
+
+
+def corners(*pairs):
+    """A tuple of spots, of pairs of coordinates."""
+    return tuple(spot(x, y) for x, y in pairs)
+
+
+TRIANGLE = corners((0, 0), (3, 0), (0, 2))
+SQUARE = corners((0, 0), (1, 0), (1, 1), (0, 1))
+PENTAGON = corners((0, 0), (2, -1), (4, 0), (3, 2), (1, 2))
+HEXAGON = corners((1, 0), (2, 0), (3, 1), (2, 2), (1, 2), (0, 1))
+SKEW = corners(("-7/3", "1/2"), ("5/4", "-9/7"), ("11/2", "2/3"), ("1/6", "13/5"))
+FIELDS = (TRIANGLE, SQUARE, PENTAGON, HEXAGON, SKEW)
+
+# Of no sort that the program asks for, whatever it asks for.
+ODD_THINGS = (
+    None, True, False, "", "a", "1/2", "12", [], [1, 2], [[1, 2], [3, 4]], (), (1,), (1, 2, 3),
+    (None, None), ("1", "2"), ([1], [2]), ((((1, 2), 3), 4), 5), [(1, 2), (3, 4)],
+    0, 1, -1, 10 ** 30 - 1, -(10 ** 30 - 1),
+)
