@@ -22,6 +22,11 @@ def spot(x, y):
     return (frac(x), frac(y))
 
 
+def values_of(place):
+    """Both parts of a spot as Fractions."""
+    return (value_of(place[0]), value_of(place[1]))
+
+
 def corners(*pairs):
     """A tuple of spots, of pairs of coordinates."""
     return tuple(spot(x, y) for x, y in pairs)

@@ -7,7 +7,7 @@ from fractions import Fraction
 from likeshards.errors import NoField
 from likeshards.fields import field_twice, is_field, look_field, place_in
 from likeshards.spots import is_spot, on_way
-from samples import FIELDS, HEXAGON, ODD_THINGS, PENTAGON, SKEW, SQUARE, TRIANGLE, corners, frac, spot, value_of
+from samples import FIELDS, HEXAGON, ODD_THINGS, PENTAGON, SKEW, SQUARE, TRIANGLE, corners, frac, spot, values_of
 
 # Seven corners, all of which a walk round to the left would pass.
 HEPTAGON = corners((1, 0), (3, 0), (4, 1), (4, 2), (3, 3), (1, 3), (0, 1))
@@ -52,10 +52,6 @@ NO_FIELDS = {
     "three fields": (TRIANGLE, TRIANGLE, TRIANGLE),
     "a spot": spot(1, 2),
 }
-
-
-def values_of(place):
-    return (value_of(place[0]), value_of(place[1]))
 
 
 def right_twice(field):

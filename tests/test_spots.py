@@ -5,13 +5,9 @@ import unittest
 from fractions import Fraction
 
 from likeshards.spots import is_ahead, is_amid, is_spot, on_way, turn_of, twice_of
-from samples import ODD_THINGS, SQUARE, TRIANGLE, frac, spot, value_of
+from samples import ODD_THINGS, SQUARE, TRIANGLE, frac, spot, value_of, values_of
 
 GRID = [spot(x, y) for x in range(-1, 3) for y in range(-1, 3)]
-
-
-def values_of(place):
-    return (value_of(place[0]), value_of(place[1]))
 
 
 def right_twice(p, q, r):
