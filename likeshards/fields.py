@@ -1,7 +1,7 @@
 """Fields: tuples of three to six spots that go round to the left once, convex."""
 
 from likeshards.errors import NoField
-from likeshards.fracs import sum_of
+from likeshards.fracs import is_whole, sum_of
 from likeshards.spots import is_amid, is_spot, turn_of, twice_of
 
 FEWEST = 3
@@ -39,6 +39,11 @@ def look_field(thing):
         raise NoField("a field is asked for")
 
 
+def is_corner_number(field, thing):
+    """Whether anything is the number of one of the field's corners."""
+    return is_whole(thing) and 0 <= thing < len(field)
+
+
 def field_twice(field):
     """Twice the area of a field; else NoField."""
     look_field(field)
@@ -48,6 +53,11 @@ def field_twice(field):
 def lies_inside(field, spot):
     """Whether the spot lies to the left of every side."""
     return all(turn_of(field[k], field[after(field, k)], spot) == 1 for k in range(len(field)))
+
+
+def is_out(field, spot):
+    """Whether a spot lies out of the field, to the right of some side."""
+    return any(turn_of(field[k], field[after(field, k)], spot) == -1 for k in range(len(field)))
 
 
 def place_in(field, spot):

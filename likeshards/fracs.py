@@ -85,9 +85,14 @@ def is_frac(thing):
     return bottom >= 1 and divisor(top, bottom) == 1
 
 
+def is_prime(thing):
+    """Whether anything is one of the primes below 100."""
+    return is_whole(thing) and thing in PRIMES
+
+
 def look_prime(thing):
     """Nothing for one of the primes below 100; of anything else NoPrime."""
-    if not is_whole(thing) or thing not in PRIMES:
+    if not is_prime(thing):
         raise NoPrime("a prime number below 100 is asked for")
 
 

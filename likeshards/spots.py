@@ -10,6 +10,13 @@ def is_spot(thing):
     return is_frac(thing[0]) and is_frac(thing[1])
 
 
+def are_three(thing):
+    """Whether anything is a tuple of three spots."""
+    if not isinstance(thing, tuple) or len(thing) != 3:
+        return False
+    return all(is_spot(place) for place in thing)
+
+
 def is_ahead(one, other):
     """Whether the first spot is ahead of the second: by its x, or by its y where the x are alike."""
     if one[0] == other[0]:
@@ -24,12 +31,23 @@ def twice_of(one, other, third):
     return lessened(along, across)
 
 
+def gap(one, other):
+    """The first fraction less the second, as a top and a bottom above 0 that need not be in lowest terms."""
+    return (one[0] * other[1] - other[0] * one[1], one[1] * other[1])
+
+
 def turn_of(one, other, third):
     """1 where the third lies to the left of who goes from the first to the second, -1 to the right, else 0."""
-    top = twice_of(one, other, third)[0]
-    if top > 0:
+    # But the sign is asked for here: to bring great numbers to lowest terms takes far longer than the rest.
+    wide, wide_by = gap(other[0], one[0])
+    high, high_by = gap(other[1], one[1])
+    out, out_by = gap(third[0], one[0])
+    up, up_by = gap(third[1], one[1])
+    along = wide * up * out_by * high_by
+    across = out * high * wide_by * up_by
+    if along > across:
         return 1
-    if top < 0:
+    if along < across:
         return -1
     return 0
 

@@ -15,6 +15,15 @@ FUNCTIONS = {
         "is_amid(spot, one, other)", "on_way(one, other, part)",
     ),
     "fields": ("is_field(thing)", "look_field(thing)", "field_twice(field)", "place_in(field, spot)"),
+    "pieces": (
+        "is_piece(thing)", "do_lap(one, other)", "fault_of(field, pieces)", "look_cutting(field, pieces)",
+    ),
+    "left": ("parted_by(patch, one, other)", "left_over(field, pieces)"),
+    "meets": (
+        "corners_of(field, pieces)", "bits_of(field, pieces, k)", "meets_of(field, pieces)",
+        "counts_of(field, pieces)",
+    ),
+    "colours": ("in_frame(frame, spot)", "colour_of(u, v, prime)", "colour_by(frame, prime, spot)"),
 }
 
 

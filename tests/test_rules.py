@@ -1,6 +1,7 @@
 """The rules of the language subset that can be seen by a look at each file of the package."""
 
 import ast
+import builtins
 import pathlib
 import re
 import unittest
@@ -107,10 +108,37 @@ class TestRules(unittest.TestCase):
         for path, text in self.each():
             tree = ast.parse(text)
             own = bound_names(tree)
-            self.assertEqual(set(), own & BUILTINS)
+            self.assertEqual(set(), own & set(dir(builtins)))
             self.assertEqual([], [name for name in own if name.startswith("_") and name != "__init__"])
             for node in all_nodes(path, ast.Name):
                 self.assertIn(node.id, own | BUILTINS)
+
+    def test_no_local_name_hides_an_import_or_a_class(self):
+        for path, text in self.each():
+            tree = ast.parse(text)
+            outer = {alias.asname or alias.name for node in all_nodes(path, ast.ImportFrom) for alias in node.names}
+            outer |= {node.name for node in tree.body if isinstance(node, ast.ClassDef)}
+            for node in all_nodes(path, (ast.FunctionDef, ast.Lambda)):
+                inner = bound_names(node) - {getattr(node, "name", None)}
+                self.assertEqual(set(), inner & outer)
+
+    def test_names_are_bound_once(self):
+        for path, text in self.each():
+            names = []
+            for node in ast.parse(text).body:
+                if isinstance(node, ast.ImportFrom):
+                    names += [alias.asname or alias.name for alias in node.names]
+                elif isinstance(node, (ast.FunctionDef, ast.ClassDef)):
+                    names.append(node.name)
+                elif isinstance(node, ast.Assign):
+                    names += [target.id for target in node.targets]
+            self.assertEqual(sorted(set(names)), sorted(names))
+
+    def test_powers(self):
+        for path, text in self.each():
+            for node in all_nodes(path, (ast.BinOp, ast.AugAssign)):
+                if isinstance(node.op, ast.Pow):
+                    self.assertIsInstance(node.right, ast.Constant)
 
     def test_methods(self):
         own = set().union(*(bound_names(ast.parse(path.read_text())) for path in FILES))

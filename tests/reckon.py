@@ -1,0 +1,134 @@
+"""The plane reckoned in Fractions, by other ways than the program's, to hold its answers against."""
+
+import itertools
+import math
+from fractions import Fraction
+
+from samples import values_of
+
+
+def points_of(shape):
+    """The corners of a tuple of spots as pairs of Fractions."""
+    return [values_of(place) for place in shape]
+
+
+def turn(p, q, r):
+    return (q[0] - p[0]) * (r[1] - p[1]) - (r[0] - p[0]) * (q[1] - p[1])
+
+
+def sides(points):
+    return list(zip(points, points[1:] + points[:1]))
+
+
+def twice(points):
+    """Twice the area, by the sides as seen from the origin."""
+    return sum(a[0] * b[1] - b[0] * a[1] for a, b in sides(points))
+
+
+def left_part(points, p, q):
+    """What lies to the left of who goes from p to q, or on this line; doubled corners may be in it."""
+    kept = []
+    for a, b in sides(points):
+        here, there = turn(p, q, a), turn(p, q, b)
+        if here >= 0:
+            kept.append(a)
+        if here * there < 0:
+            t = here / (here - there)
+            kept.append((a[0] + t * (b[0] - a[0]), a[1] + t * (b[1] - a[1])))
+    return kept
+
+
+def in_common(one, other):
+    """The corners of what two convex shapes have in common."""
+    for p, q in sides(other):
+        one = left_part(one, p, q)
+    return one
+
+
+def lap(one, other):
+    return twice(in_common(points_of(one), points_of(other))) > 0
+
+
+def lies_in(point, points):
+    """Whether a point lies inside, or on a side."""
+    return all(turn(p, q, point) >= 0 for p, q in sides(points))
+
+
+def goes_round(points):
+    """Whether all other corners lie to the left of each side."""
+    n = len(points)
+    return n >= 3 and all(
+        turn(points[k], points[(k + 1) % n], points[j]) > 0
+        for k in range(n) for j in range(n) if j not in (k, (k + 1) % n)
+    )
+
+
+def is_patch(shape):
+    """Whether it is a tuple of spots that goes round, begun with the corner ahead of all others."""
+    points = points_of(shape)
+    return isinstance(shape, tuple) and goes_round(points) and points[0] == min(points)
+
+
+def crossings(shapes):
+    """The x of each spot in which the sides of shapes cross, and of their corners."""
+    lines = [side for shape in shapes for side in sides(shape)]
+    found = {x for shape in shapes for x, y in shape}
+    for (a, b), (c, d) in itertools.combinations(lines, 2):
+        here, there = turn(c, d, a), turn(c, d, b)
+        if here * there < 0 and turn(a, b, c) * turn(a, b, d) < 0:
+            found.add(a[0] + here / (here - there) * (b[0] - a[0]))
+    return sorted(found)
+
+
+def span_at(points, x):
+    """The lowest and the highest y of a convex shape at an x at which it has no corner; None beside it."""
+    heights = []
+    for a, b in sides(points):
+        if min(a[0], b[0]) < x < max(a[0], b[0]):
+            heights.append(a[1] + (x - a[0]) / (b[0] - a[0]) * (b[1] - a[1]))
+    return (min(heights), max(heights)) if heights else None
+
+
+def covered_at(shapes, x):
+    """How long the part is that the shapes cover at an x."""
+    total, top = Fraction(0), None
+    for low, high in sorted(span for span in (span_at(shape, x) for shape in shapes) if span):
+        if top is None or low > top:
+            total, top = total + high - low, high
+        elif high > top:
+            total, top = total + high - top, high
+    return total
+
+
+def twice_covered(shapes):
+    """Twice the area of what convex shapes cover together, which between crossings grows evenly."""
+    cuts = crossings(shapes)
+    return 2 * sum((b - a) * covered_at(shapes, (a + b) / 2) for a, b in zip(cuts, cuts[1:]))
+
+
+def power(value, prime):
+    """The power of a prime in a Fraction, without bound for nought."""
+    if value == 0:
+        return math.inf
+    count = 0
+    while value.numerator % prime == 0:
+        value, count = value / prime, count + 1
+    while value.denominator % prime == 0:
+        value, count = value * prime, count - 1
+    return count
+
+
+def numbers(frame, place):
+    """The numbers of a spot in a frame, by the inverse of a matrix."""
+    (ox, oy), (px, py), (qx, qy) = points_of(frame)
+    x, y = values_of(place)
+    a, b, c, d = px - ox, qx - ox, py - oy, qy - oy
+    size = a * d - b * c
+    return ((d * (x - ox) - b * (y - oy)) / size, (a * (y - oy) - c * (x - ox)) / size)
+
+
+def colour(frame, prime, place):
+    u, v = [power(value, prime) for value in numbers(frame, place)]
+    if min(u, v) > 0:
+        return 0
+    return 1 if u <= v else 2
