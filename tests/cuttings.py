@@ -91,11 +91,20 @@ UNLIKE = [
     corners((0, 0), (0, -2), (3, 0)), corners((3, 0), (0, -2), (6, 0)),
 ]
 UNLIKE_FIELD = corners((0, -2), (6, 0), (0, 2))
+# By the plain frame and the prime 2 the corners on the line at the bottom of piece 0 have the colours 0, 1, 0, 1, 0:
+# two walks go through this piece twice, and end on the border.
+WEAVE_FIELD = corners((0, 4), (0, 0), (1, -1), (4, 0))
+WEAVE = [corners((0, 0), (4, 0), (0, 4))] + [corners((k, 0), (1, -1), (k + 1, 0)) for k in range(4)]
+# By the same piece 0 is full and has three doors, all of them on one side.
+THREE_DOORS_FIELD = corners((0, 1), (0, 0), (1, -1), (3, 0))
+THREE_DOORS = [corners((0, 0), (3, 0), (0, 1))] + [corners((k, 0), (1, -1), (k + 1, 0)) for k in range(3)]
+PLAIN_FRAME = corners((0, 0), (1, 0), (0, 1))
 
 WRITTEN = [
     (TRIANGLE, [TRIANGLE]), (TRIANGLE, QUARTERS), (SQUARE, HALVES), (SQUARE, CROSS), (SQUARE, THIRD_AMID),
     (PENTAGON, fan(PENTAGON, 3)), (HEXAGON, star(HEXAGON, spot("3/2", 1))), (SKEW, fan(SKEW, 1)),
-    (WHIRL_FIELD, WHIRL), (COMB_FIELD, COMB), (UNLIKE_FIELD, UNLIKE),
+    (WHIRL_FIELD, WHIRL), (COMB_FIELD, COMB), (UNLIKE_FIELD, UNLIKE), (WEAVE_FIELD, WEAVE),
+    (THREE_DOORS_FIELD, THREE_DOORS),
 ]
 GROWN = [(field, grown(field, many, seed)) for seed, many in enumerate((6, 9, 14)) for field in FIELDS]
 GREAT = [(stretched(field), all_stretched(pieces)) for field, pieces in WRITTEN + GROWN[:5]]
@@ -103,7 +112,7 @@ CUTTINGS = WRITTEN + GROWN + GREAT
 
 # Frames that are no corners of a cutting, one of them turned to the right.
 OTHER_FRAMES = [
-    corners((0, 0), (1, 0), (0, 1)), corners(("1/2", "1/3"), (2, 5), (-1, "7/4")), corners((0, 0), (2, 6), (4, 3)),
+    PLAIN_FRAME, corners(("1/2", "1/3"), (2, 5), (-1, "7/4")), corners((0, 0), (2, 6), (4, 3)),
     corners((1, 1), (1, 3), (2, 1)),
 ]
 

@@ -132,3 +132,78 @@ def colour(frame, prime, place):
     if min(u, v) > 0:
         return 0
     return 1 if u <= v else 2
+
+
+def bits(pieces, piece):
+    """The bits of a piece, by the parts of the way at which the corners of all pieces lie on a side."""
+    places = {corner for other in pieces for corner in other}
+    told = []
+    for one, other in zip(piece, piece[1:] + piece[:1]):
+        (ax, ay), (bx, by) = values_of(one), values_of(other)
+        on_side = {}
+        for place in places:
+            x, y = values_of(place)
+            part = (x - ax) / (bx - ax) if bx != ax else (y - ay) / (by - ay)
+            if 0 <= part <= 1 and (x, y) == (ax + part * (bx - ax), ay + part * (by - ay)):
+                on_side[part] = place
+        row = [on_side[part] for part in sorted(on_side)]
+        told += list(zip(row, row[1:]))
+    return told
+
+
+def on_border(field, bit):
+    """Whether both ends of a bit lie on one side of the field."""
+    ends = points_of(bit)
+    return any(all(turn(p, q, end) == 0 for end in ends) for p, q in sides(points_of(field)))
+
+
+class Sight:
+    """A cutting seen by a frame and a prime: bits, doors, full pieces, and what lies behind each bit."""
+
+    def __init__(self, field, pieces, frame, prime):
+        tint = {place: colour(frame, prime, place) for piece in pieces for place in piece}
+        self.bits = [bits(pieces, piece) for piece in pieces]
+        self.doors = [[b for b, bit in enumerate(row) if {tint[end] for end in bit} == {0, 1}] for row in self.bits]
+        self.full = [k for k, piece in enumerate(pieces) if len({tint[place] for place in piece}) == 3]
+        found = {bit: (k, b) for k, row in enumerate(self.bits) for b, bit in enumerate(row)}
+        self.behind = {place: found.get(bit[::-1]) for bit, place in found.items()}
+        self.border = [(k, b) for k, row in enumerate(self.doors) for b in row if on_border(field, self.bits[k][b])]
+
+    def walk(self, door):
+        """The walk from a border's door, by partners put side by side."""
+        steps = []
+        while True:
+            k, b = door
+            if k in self.full:
+                return steps + [(k, b, None)]
+            row = iter(self.doors[k])
+            mates = dict(pair for one, other in zip(row, row) for pair in ((one, other), (other, one)))
+            steps.append((k, b, mates[b]))
+            door = self.behind[k, mates[b]]
+            if door is None:
+                return steps
+
+    def stands(self, walk):
+        """What promise 23 says, of a list of tuples of three whole numbers or None."""
+        if not walk or walk[0][:2] not in self.border:
+            return False
+        for at, (k, b, out) in enumerate(walk):
+            if k not in range(len(self.doors)) or b not in self.doors[k]:
+                return False
+            if at == len(walk) - 1:
+                return out is None and k in self.full
+            if out is None or out == b or out not in self.doors[k] or self.behind[k, out] != walk[at + 1][:2]:
+                return False
+
+    def ways(self, most):
+        """All walks that stand, of at most so many steps."""
+        rows = [[(k, b, None)] for k, b in self.border]
+        for length in range(most):
+            for row in rows:
+                if row[-1][0] in self.full:
+                    yield row
+            rows = [
+                row[:-1] + [(row[-1][0], row[-1][1], out), (*self.behind[row[-1][0], out], None)]
+                for row in rows for out in self.doors[row[-1][0]]
+                if out != row[-1][1] and self.behind[row[-1][0], out] is not None
+            ]

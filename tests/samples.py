@@ -1,5 +1,6 @@
 """Short ways to write what the tests hand in, and things that are almost right."""
 
+import random
 from fractions import Fraction
 
 
@@ -25,6 +26,16 @@ def spot(x, y):
 def values_of(place):
     """Both parts of a spot as Fractions."""
     return (value_of(place[0]), value_of(place[1]))
+
+
+def some_spots(seed, many, greatest):
+    """Spots by chance, the tops and bottoms of their parts at most the greatest."""
+    chance = random.Random(seed)
+
+    def number():
+        return Fraction(chance.randint(-greatest, greatest), chance.randint(1, greatest))
+
+    return [spot(number(), number()) for k in range(many)]
 
 
 def corners(*pairs):

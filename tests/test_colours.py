@@ -10,7 +10,7 @@ from cuttings import OTHER_FRAMES, TRIED_PRIMES, stretched
 from likeshards.colours import colour_by, colour_of, in_frame
 from likeshards.errors import NoFrame, NoPrime
 from likeshards.fracs import is_frac
-from samples import ODD_THINGS, PENTAGON, SKEW, TRIANGLE, corners, frac, spot, value_of, values_of
+from samples import ODD_THINGS, PENTAGON, SKEW, TRIANGLE, corners, frac, some_spots, spot, value_of, values_of
 
 PLAIN = corners((0, 0), (1, 0), (0, 1))
 FRAMES = OTHER_FRAMES + [PENTAGON[:3], PENTAGON[2:][::-1], SKEW[1:], stretched(TRIANGLE), PLAIN[::-1]]
@@ -24,15 +24,6 @@ ALIKE = (
     corners((0, 0), (0, 0), (1, 0)), corners((0, 0), (1, 0), (0, 0)), corners((1, 0), (0, 0), (0, 0)),
     corners((5, 5), (5, 5), (5, 5)),
 )
-
-
-def some_places(seed, many, greatest):
-    chance = random.Random(seed)
-
-    def number():
-        return Fraction(chance.randint(-greatest, greatest), chance.randint(1, greatest))
-
-    return [spot(number(), number()) for k in range(many)]
 
 
 class TestInFrame(unittest.TestCase):
@@ -61,7 +52,7 @@ class TestInFrame(unittest.TestCase):
     def test_leads_back(self):
         for frame in FRAMES:
             (ox, oy), (px, py), (qx, qy) = reckon.points_of(frame)
-            for place in PLACES + some_places(17, 5, 10 ** 30 - 1):
+            for place in PLACES + some_spots(17, 5, 10 ** 30 - 1):
                 told = in_frame(frame, place)
                 self.assertIsInstance(told, tuple)
                 self.assertTrue(all(is_frac(part) for part in told))
@@ -117,7 +108,7 @@ class TestColourOf(unittest.TestCase):
 
     def test_some(self):
         for prime in TRIED_PRIMES:
-            for u, v in some_places(18, 200, 20) + some_places(19, 30, 10 ** 30 - 1):
+            for u, v in some_spots(18, 200, 20) + some_spots(19, 30, 10 ** 30 - 1):
                 powers = [reckon.power(value_of(part), prime) for part in (u, v)]
                 right = 0 if min(powers) > 0 else 1 if powers[0] <= powers[1] else 2
                 self.assertEqual(right, colour_of(u, v, prime))
@@ -143,7 +134,7 @@ class TestColourBy(unittest.TestCase):
         seen = set()
         for frame in FRAMES:
             for prime in TRIED_PRIMES:
-                for place in PLACES[::3] + some_places(20, 3, 10 ** 30 - 1) + list(frame):
+                for place in PLACES[::3] + some_spots(20, 3, 10 ** 30 - 1) + list(frame):
                     right = reckon.colour(frame, prime, place)
                     seen.add((prime, right))
                     self.assertEqual(right, colour_by(frame, prime, place))

@@ -24,6 +24,19 @@ FUNCTIONS = {
         "counts_of(field, pieces)",
     ),
     "colours": ("in_frame(frame, spot)", "colour_of(u, v, prime)", "colour_by(frame, prime, spot)"),
+    "doors": (
+        "doors_of(field, pieces, frame, prime, k)", "full_of(field, pieces, frame, prime)",
+        "border_doors(field, pieces, frame, prime)", "odd_sides(field, frame, prime)",
+    ),
+    "walks": (
+        "walk_from(field, pieces, frame, prime, door)", "all_walks(field, pieces, frame, prime)",
+        "walk_stands(field, pieces, frame, prime, walk)",
+    ),
+    "papers": (
+        "look_paper(field, paper)", "odd_of(field, paper)", "bar_of(field, paper)", "bars_many(field, paper, many)",
+        "bars_row(field, paper, row)", "must_of(field)",
+    ),
+    "fans": ("fan_of(field, c)", "shares_of(field, c)", "fan_cut(field, c, many)"),
 }
 
 

@@ -25,29 +25,6 @@ def bits(*pairs):
     return [(row[k], row[k + 1]) for k in range(len(row) - 1)]
 
 
-def right_bits(pieces, piece):
-    """By the parts of the way at which the corners lie on a side."""
-    places = {corner for other in pieces for corner in other}
-    told = []
-    for one, other in zip(piece, piece[1:] + piece[:1]):
-        (ax, ay), (bx, by) = values_of(one), values_of(other)
-        on_side = {}
-        for place in places:
-            x, y = values_of(place)
-            part = (x - ax) / (bx - ax) if bx != ax else (y - ay) / (by - ay)
-            if 0 <= part <= 1 and (x, y) == (ax + part * (bx - ax), ay + part * (by - ay)):
-                on_side[part] = place
-        row = [on_side[part] for part in sorted(on_side)]
-        told += list(zip(row, row[1:]))
-    return told
-
-
-def on_border(field, bit):
-    """Whether both ends of a bit lie on one side of the field."""
-    ends = reckon.points_of(bit)
-    return any(all(reckon.turn(p, q, end) == 0 for end in ends) for p, q in reckon.sides(reckon.points_of(field)))
-
-
 class TestCorners(unittest.TestCase):
     def test_written_out(self):
         self.assertEqual(list(corners((0, 0), (0, 1), (1, 0), (1, 1))), corners_of(SQUARE, HALVES))
@@ -124,7 +101,7 @@ class TestBits(unittest.TestCase):
             for k, piece in enumerate(pieces):
                 told = bits_of(field, pieces, k)
                 self.assertIsInstance(told, list)
-                self.assertEqual(right_bits(pieces, piece), told)
+                self.assertEqual(reckon.bits(pieces, piece), told)
 
     def test_hardly_beside(self):
         thin = Fraction(1, 10 ** 28)
@@ -167,7 +144,7 @@ class TestMeets(unittest.TestCase):
             told = meets_of(field, pieces)
             for k, row in enumerate(told):
                 for start, end, other in row:
-                    self.assertEqual(on_border(field, (start, end)), other is None)
+                    self.assertEqual(reckon.on_border(field, (start, end)), other is None)
                     owners = [j for j, bits_there in enumerate(told)
                               for there in bits_there if there[:2] == (end, start)]
                     self.assertEqual([] if other is None else [other], owners)

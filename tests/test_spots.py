@@ -1,11 +1,10 @@
 """Promises 6 and 7, and what 8 says of spots."""
 
-import random
 import unittest
 from fractions import Fraction
 
 from likeshards.spots import is_ahead, is_amid, is_spot, on_way, turn_of, twice_of
-from samples import ODD_THINGS, SQUARE, TRIANGLE, frac, spot, value_of, values_of
+from samples import ODD_THINGS, SQUARE, TRIANGLE, frac, some_spots, spot, value_of, values_of
 
 GRID = [spot(x, y) for x in range(-1, 3) for y in range(-1, 3)]
 
@@ -22,15 +21,6 @@ def is_right_amid(place, one, other):
         return False
     part = (x - ox) / (tx - ox) if tx != ox else (y - oy) / (ty - oy)
     return 0 < part < 1 and (x, y) == (ox + part * (tx - ox), oy + part * (ty - oy))
-
-
-def some_spots(seed, many, greatest):
-    chance = random.Random(seed)
-
-    def number():
-        return Fraction(chance.randint(-greatest, greatest), chance.randint(1, greatest))
-
-    return [spot(number(), number()) for k in range(many)]
 
 
 class TestIsSpot(unittest.TestCase):
