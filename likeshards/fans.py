@@ -44,11 +44,16 @@ def shares_of(field, c):
     return shares_in(fan_of(field, c))
 
 
+def even_ways(start, end, many):
+    """The way from start to end parted evenly in many ways (from, to), one behind the other; many from 1 on."""
+    row = [on_way(start, end, frac_of(k, many)) for k in range(many + 1)]
+    return [(row[k], row[k + 1]) for k in range(many)]
+
+
 def cut_evenly(piece, many):
     """A piece cut in many like ones from its first corner, by spots that part the side across from it evenly."""
     hub, start, end = piece
-    row = [on_way(start, end, frac_of(k, many)) for k in range(many + 1)]
-    return [(hub, row[k], row[k + 1]) for k in range(many)]
+    return [(hub, one, other) for one, other in even_ways(start, end, many)]
 
 
 def fan_cut(field, c, many):

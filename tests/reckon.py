@@ -6,6 +6,8 @@ from fractions import Fraction
 
 from samples import values_of
 
+PRIMES = [n for n in range(2, 100) if all(n % d for d in range(2, n))]
+
 
 def points_of(shape):
     """The corners of a tuple of spots as pairs of Fractions."""
@@ -23,6 +25,11 @@ def sides(points):
 def twice(points):
     """Twice the area, by the sides as seen from the origin."""
     return sum(a[0] * b[1] - b[0] * a[1] for a, b in sides(points))
+
+
+def area(shape):
+    """The area of a tuple of spots that goes round to the left."""
+    return twice(points_of(shape)) / 2
 
 
 def left_part(points, p, q):
@@ -132,6 +139,42 @@ def colour(frame, prime, place):
     if min(u, v) > 0:
         return 0
     return 1 if u <= v else 2
+
+
+def threes(field):
+    """All ways to take three unlike corners, by their numbers."""
+    return itertools.permutations(range(len(field)), 3)
+
+
+def right_odd(field, paper):
+    """The odd sides of a paper."""
+    frame = [field[k] for k in paper[:3]]
+    tint = [colour(frame, paper[3], corner) for corner in field]
+    return [k for k, one in enumerate(tint) if {one, tint[(k + 1) % len(tint)]} == {0, 1}]
+
+
+def ratio(field, paper):
+    """The field's twice over the twice of a paper's frame."""
+    return twice(points_of(field)) / turn(*[points_of(field)[k] for k in paper[:3]])
+
+
+def right_bar(field, paper):
+    """The bar of a paper, None where it has none."""
+    if len(right_odd(field, paper)) % 2 == 0:
+        return None
+    return max(0, power(ratio(field, paper), paper[3]))
+
+
+def best_bars(field):
+    """By each prime by which some paper has a bar above 0, the greatest, of all papers."""
+    best = {}
+    for three in threes(field):
+        for prime in PRIMES:
+            if power(ratio(field, (*three, prime)), prime) > 0:
+                bar = right_bar(field, (*three, prime))
+                if bar is not None:
+                    best[prime] = max(bar, best.get(prime, 0))
+    return best
 
 
 def bits(pieces, piece):

@@ -50,6 +50,16 @@ HEXAGON = corners((1, 0), (2, 0), (3, 1), (2, 2), (1, 2), (0, 1))
 SKEW = corners(("-7/3", "1/2"), ("5/4", "-9/7"), ("11/2", "2/3"), ("1/6", "13/5"))
 FIELDS = (TRIANGLE, SQUARE, PENTAGON, HEXAGON, SKEW)
 
+# Fields with hubs inside and amid sides, for numbers for which no corner is a hub.
+ON_SIDE = corners((1, 1), (3, 1), (5, 3), (3, 4))
+INSIDE = corners((5, 1), (6, 4), (5, 6), (3, 4))
+FIVE = corners((1, 5), (0, 0), (3, 0), (6, 5), (6, 6))
+FIVE_ON_SIDE = corners((1, 1), (3, 3), (2, 5), (1, 4), (0, 1))
+SIX = corners((1, 0), ("7/3", 2), (2, 3), ("4/9", "5/3"), ("-97/45", "-4/3"), ("-13/5", -3))
+HUB_FIELDS = (ON_SIDE, INSIDE, FIVE, FIVE_ON_SIDE, SIX)
+# The numbers of its fans are 9, 6, 9, 3 and 6.
+UNLIKE_FANS = corners((0, 4), (1, 2), (4, 0), (4, 2), (1, 5))
+
 # Of no sort that the program asks for, whatever it asks for.
 ODD_THINGS = (
     None, True, False, "", "a", "1/2", "12", [], [1, 2], [[1, 2], [3, 4]], (), (1,), (1, 2, 3),

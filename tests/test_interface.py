@@ -37,6 +37,13 @@ FUNCTIONS = {
         "bars_row(field, paper, row)", "must_of(field)",
     ),
     "fans": ("fan_of(field, c)", "shares_of(field, c)", "fan_cut(field, c, many)"),
+    "hubs": ("hub_of(field, many)", "hub_cut(field, spot, counts)"),
+    "telling": ("told_many(field, many)", "trapeze_of(part)"),
+    "rows": ("told_row(field, row)", "row_cut(field, row, c, groups)"),
+    "moves": (
+        "freedom_of(field, pieces, spot)", "moved(field, pieces, spot, goal)", "with_moved(pieces, spot, goal)",
+        "signed_sum(pieces)",
+    ),
 }
 
 

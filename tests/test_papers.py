@@ -1,7 +1,6 @@
 """Promises 24, 25 and 26: papers, what they bar, and what must be of a field."""
 
 import copy
-import itertools
 import math
 import random
 import unittest
@@ -12,9 +11,9 @@ from cuttings import CUTTINGS, GREAT, GROWN, HALVES, WRITTEN, stretched
 from likeshards.errors import NoAreas, NoField, NoNumber, NoPaper
 from likeshards.fans import fan_cut, shares_of
 from likeshards.papers import bar_of, bars_many, bars_row, look_paper, must_of, odd_of
+from reckon import PRIMES, best_bars, ratio, right_bar, right_odd, threes
 from samples import FIELDS, HEXAGON, ODD_THINGS, PENTAGON, SKEW, SQUARE, TRIANGLE, corners, frac
 
-PRIMES = [n for n in range(2, 100) if all(n % d for d in range(2, n))]
 FAR = 10 ** 30 - 1
 
 
@@ -27,27 +26,6 @@ MORE_FIELDS = [trapeze(t) for t in ("1/2", "1/5", "7/8", 5, "9/16", "1/29")] + [
     stretched(SKEW), corners((0, 0), (1, 0), ("3/2", "5/4"), ("1/4", "9/8")),
 ]
 ALL_FIELDS = list(FIELDS) + MORE_FIELDS
-
-
-def threes(field):
-    return itertools.permutations(range(len(field)), 3)
-
-
-def right_odd(field, paper):
-    frame = [field[k] for k in paper[:3]]
-    tint = [reckon.colour(frame, paper[3], corner) for corner in field]
-    return [k for k, one in enumerate(tint) if {one, tint[(k + 1) % len(tint)]} == {0, 1}]
-
-
-def ratio(field, paper):
-    """The field's twice over the frame's."""
-    return reckon.twice(reckon.points_of(field)) / reckon.turn(*[reckon.points_of(field)[k] for k in paper[:3]])
-
-
-def right_bar(field, paper):
-    if len(right_odd(field, paper)) % 2 == 0:
-        return None
-    return max(0, reckon.power(ratio(field, paper), paper[3]))
 
 
 NO_PAPERS = (
@@ -244,13 +222,7 @@ class TestBarsRow(unittest.TestCase):
 class TestMust(unittest.TestCase):
     def check(self, field, number, papers):
         """What is told, held against all papers of the field."""
-        best = {}
-        for three in threes(field):
-            for prime in PRIMES:
-                if reckon.power(ratio(field, (*three, prime)), prime) > 0:
-                    bar = right_bar(field, (*three, prime))
-                    if bar is not None:
-                        best[prime] = max(bar, best.get(prime, 0))
+        best = best_bars(field)
         self.assertIsInstance(papers, list)
         self.assertEqual(sorted(best), [paper[3] for paper in papers])
         for paper in papers:
