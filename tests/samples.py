@@ -56,7 +56,9 @@ INSIDE = corners((5, 1), (6, 4), (5, 6), (3, 4))
 FIVE = corners((1, 5), (0, 0), (3, 0), (6, 5), (6, 6))
 FIVE_ON_SIDE = corners((1, 1), (3, 3), (2, 5), (1, 4), (0, 1))
 SIX = corners((1, 0), ("7/3", 2), (2, 3), ("4/9", "5/3"), ("-97/45", "-4/3"), ("-13/5", -3))
-HUB_FIELDS = (ON_SIDE, INSIDE, FIVE, FIVE_ON_SIDE, SIX)
+# For six the second count of its hub is nearly all.
+LATE = corners((2, 5), (6, 0), (6, 5), (3, 6))
+HUB_FIELDS = (ON_SIDE, INSIDE, FIVE, FIVE_ON_SIDE, SIX, LATE)
 # The numbers of its fans are 9, 6, 9, 3 and 6.
 UNLIKE_FANS = corners((0, 4), (1, 2), (4, 0), (4, 2), (1, 5))
 

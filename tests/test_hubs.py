@@ -11,8 +11,8 @@ from likeshards.fields import place_in
 from likeshards.hubs import hub_cut, hub_of
 from likeshards.papers import bars_many, bars_row
 from likeshards.pieces import fault_of
-from samples import FIELDS, FIVE, FIVE_ON_SIDE, HEXAGON, HUB_FIELDS, INSIDE, ODD_THINGS, ON_SIDE, PENTAGON, SIX, SKEW
-from samples import SQUARE, TRIANGLE, frac, spot, values_of
+from samples import FIELDS, FIVE, FIVE_ON_SIDE, HEXAGON, HUB_FIELDS, INSIDE, LATE, ODD_THINGS, ON_SIDE, PENTAGON, SIX
+from samples import SKEW, SQUARE, TRIANGLE, frac, spot, values_of
 
 ALL_FIELDS = list(FIELDS + HUB_FIELDS) + [stretched(INSIDE), stretched(PENTAGON), stretched(TRIANGLE)]
 NUMBERS = range(1, 25)
@@ -65,6 +65,7 @@ class TestHubOf(unittest.TestCase):
         self.assertEqual((spot("9/4", "15/4"), [2, 3, 4, 1, 2]), hub_of(FIVE, 12))
         self.assertEqual((spot("14/5", "17/5"), [1, 0, 2, 5, 2]), hub_of(FIVE_ON_SIDE, 10))
         self.assertEqual((spot(0, 0), [2, 3, 2, 3, 3, 3]), hub_of(SIX, 16))
+        self.assertEqual((LATE[0], [0, 5, 1, 0]), hub_of(LATE, 6))
 
     def test_none(self):
         for many in (1, 3, 5, 23):

@@ -44,6 +44,18 @@ FUNCTIONS = {
         "freedom_of(field, pieces, spot)", "moved(field, pieces, spot, goal)", "with_moved(pieces, spot, goal)",
         "signed_sum(pieces)",
     ),
+    "finer": (
+        "cut_at(field, pieces, k, spot)", "holders_of(field, pieces, others)", "is_finer(field, pieces, others)",
+        "laid_over(field, pieces, others)",
+    ),
+    "bends": (
+        "look_bend(thing)", "size_of(bend)", "bent(bend, spot)", "bent_field(bend, field)", "bent_pieces(bend, pieces)",
+        "both_bends(one, other)", "bend_back(bend)",
+    ),
+    "texts": (
+        "show_frac(part)", "show_spot(spot)", "show_cutting(field, pieces)", "read_frac(text)", "read_spot(text)",
+        "read_cutting(text)",
+    ),
 }
 
 
@@ -55,6 +67,11 @@ class TestInterface(unittest.TestCase):
                 with self.subTest(module=module_name, row=row):
                     name = row.partition("(")[0]
                     self.assertEqual(row, name + str(inspect.signature(getattr(module, name))))
+
+    def test_desk(self):
+        desk = importlib.import_module("likeshards.desk").Desk
+        self.assertEqual("()", str(inspect.signature(desk)))
+        self.assertEqual("(self, text)", str(inspect.signature(vars(desk)["say"])))
 
 
 if __name__ == "__main__":

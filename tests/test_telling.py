@@ -189,6 +189,8 @@ class TestTrapeze(unittest.TestCase):
     def test_no_number(self):
         for part in ((0, 1), (-1, 1), (-1, 2), (-(10 ** 30 - 1), 7)):
             self.assertRaises(NoNumber, trapeze_of, part)
+        for thing in ODD_THINGS + ((2, 4), (1, -2), (True, 1)):
+            self.assertRaises(NoNumber, trapeze_of, thing)
 
 
 if __name__ == "__main__":
